@@ -1,0 +1,1 @@
+"""A radio in complex halves."""
