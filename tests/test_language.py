@@ -1,6 +1,6 @@
 """The package's files keep to the small part of Python that they are written in.
 
-Most rules are checked by their form alone: what may be called, imported, named and written.
+A part of the rules is checked here: sizes, signs, imports, statements, and which names and methods are used.
 """
 
 import ast
