@@ -13,6 +13,10 @@ INFINITE = 1099511627776
 NO_NUMBER = 2199023255552
 
 SIGNIFICANT_BITS = 11
+# Of a number in units of 2^-48: with no more bits than SMALL_BITS it is rounded to whole
+# units of 2^-24, and with fewer than LARGE_BITS it can't become infinite.
+SMALL_BITS = 35
+LARGE_BITS = 64
 SIGN_BIT = 32768
 NO_NUMBER_BITS = 32256
 
@@ -38,14 +42,26 @@ def bits_of(part):
     return bits + SIGN_BIT if part < 0 else bits
 
 
-def rounded(exact):
-    """The part nearest to a whole number of units of 2^-48, of two as near the even one."""
-    shift = max(exact.bit_length() - SIGNIFICANT_BITS, UNIT_BITS)
+def nearest(exact, shift):
+    """The whole number nearest to exact by 2^-shift, of two as near the even one; shift is above 0."""
     # Just less than a half is added to an even number and a half to an odd one;
     # the shift goes downwards below 0 too, so this holds on both sides of 0.
     odd = (exact >> shift) & 1
-    kept = (exact + (1 << (shift - 1)) - 1 + odd) >> shift
-    part = kept << (shift - UNIT_BITS)
+    return (exact + (1 << (shift - 1)) - 1 + odd) >> shift
+
+
+def rounded(exact):
+    """The part nearest to a whole number of units of 2^-48, of two as near the even one."""
+    size = exact.bit_length()
+    shift = size - SIGNIFICANT_BITS if size > SMALL_BITS else UNIT_BITS
+    # This is nearest(exact, shift), written out: every step of the program comes by here.
+    odd = (exact >> shift) & 1
+    part = (exact + (1 << (shift - 1)) - 1 + odd) >> shift << (shift - UNIT_BITS)
+    return part if size < LARGE_BITS else held(part)
+
+
+def held(part):
+    """A part of any size, with infinite for what is beyond the finite ones."""
     return max(-INFINITE, min(INFINITE, part))
 
 
@@ -55,7 +71,8 @@ def finite(part):
 
 def fma(x, y, z):
     """x y + z, rounded once."""
-    if finite(x) and finite(y) and finite(z):
+    # finite, written out, for the same reason as in rounded.
+    if -INFINITE < x < INFINITE and -INFINITE < y < INFINITE and -INFINITE < z < INFINITE:
         return rounded(x * y + (z << UNIT_BITS))
     return fma_not_finite(x, y, z)
 
@@ -77,6 +94,14 @@ def plus(x, y):
     return fma(x, ONE, y)
 
 
+def scaled(part, k):
+    """A part times 2^k, rounded once."""
+    if not finite(part):
+        return part
+    # No more bits are set than a half has, so only what goes below the units is rounded.
+    return held(part << k) if k >= 0 else nearest(part, -k)
+
+
 def conjugate(y):
     return (y[0], -y[1])
 
@@ -86,6 +111,10 @@ def add_product(x, y, s):
     real = fma(-x[1], y[1], fma(x[0], y[0], s[0]))
     imaginary = fma(x[0], y[1], fma(x[1], y[0], s[1]))
     return (real, imaginary)
+
+
+def negative(x):
+    return (-x[0], -x[1])
 
 
 def product(x, y):

@@ -1,13 +1,15 @@
 """The calls on rows: each answers a list, a refusal or 0 and what is told."""
 
-from halfradio.halves import add_product, bits_of, conjugate, part_of, plus, product
+from halfradio.halves import add_product, bits_of, conjugate, fma, negative, part_of, plus, product, scaled
 
 MOST = 4096
+MOST_DOUBLINGS = 10
+MOST_SCALE = 64
 SUMS = 16
 
 
 def rr_times(n, how, x, y):
-    if refused(n, how):
+    if wrong_count(n) or wrong_how(how):
         return [-2]
     xs = pairs_of(x)
     ys = factors_of(how, y)
@@ -15,7 +17,7 @@ def rr_times(n, how, x, y):
 
 
 def rr_more(n, how, x, y, s):
-    if refused(n, how):
+    if wrong_count(n) or wrong_how(how):
         return [-2]
     xs = pairs_of(x)
     ys = factors_of(how, y)
@@ -24,7 +26,7 @@ def rr_more(n, how, x, y, s):
 
 
 def rr_dot(n, how, x, y):
-    if refused(n, how):
+    if wrong_count(n) or wrong_how(how):
         return [-2]
     xs = pairs_of(x)
     ys = factors_of(how, y)
@@ -36,8 +38,43 @@ def rr_dot(n, how, x, y):
     return told([(real, imaginary)])
 
 
-def refused(n, how):
-    return n < 0 or n > MOST or how < 0 or how > 1
+def rr_power(n, x):
+    if wrong_count(n):
+        return [-2]
+    parts = parts_of(x)
+    # Real and imaginary parts alternate, so the two kinds of sums do too.
+    sums = [0] * (2 * SUMS)
+    for i in range(2 * n):
+        sums[i % (2 * SUMS)] = fma(parts[i], parts[i], sums[i % (2 * SUMS)])
+    return [0, bits_of(folded(sums))]
+
+
+def rr_transform(k, how, x, roots):
+    if k < 0 or k > MOST_DOUBLINGS or wrong_how(how):
+        return [-2]
+    return told(transformed(pairs_of(x), factors_of(how, roots)))
+
+
+def rr_scale(n, k, x):
+    if wrong_count(n) or wrong_scale(k):
+        return [-2]
+    return told_parts([scaled(part, k) for part in parts_of(x)])
+
+
+def wrong_count(n):
+    return n < 0 or n > MOST
+
+
+def wrong_how(how):
+    return how < 0 or how > 1
+
+
+def wrong_scale(k):
+    return k < -MOST_SCALE or k > MOST_SCALE
+
+
+def parts_of(numbers):
+    return [part_of(number) for number in numbers]
 
 
 def pairs_of(numbers):
@@ -60,6 +97,31 @@ def folded(parts):
     return left[0]
 
 
+def transformed(pairs, roots):
+    """The transform of complex halves, as many as a power of 2, with half as many roots."""
+    row = [pairs[place] for place in turned_places(len(pairs))]
+    h = 1
+    while h < len(row):
+        step = len(row) // (2 * h)
+        for start in range(0, len(row), 2 * h):
+            for j in range(h):
+                u = row[start + j]
+                v = row[start + j + h]
+                w = roots[j * step]
+                row[start + j] = add_product(v, w, u)
+                row[start + j + h] = add_product(negative(v), w, u)
+        h = 2 * h
+    return row
+
+
+def turned_places(count):
+    """The numbers below count, a power of 2, each with its bits the other way round, in order."""
+    places = [0]
+    while len(places) < count:
+        places = [2 * place for place in places] + [2 * place + 1 for place in places]
+    return places
+
+
 def told(pairs):
     """The answer that isn't a refusal: 0, then complex halves, number by number."""
     answer = [0]
@@ -67,3 +129,8 @@ def told(pairs):
         answer.append(bits_of(pair[0]))
         answer.append(bits_of(pair[1]))
     return answer
+
+
+def told_parts(parts):
+    """The same, of parts one behind another."""
+    return [0] + [bits_of(part) for part in parts]

@@ -1,7 +1,7 @@
 """What the document says of halves, written a second time for the tests alone.
 
-It shares no way of working with the package: a half is read by struct, the
-exact result is a Fraction, and the nearest half is looked up among all halves.
+It shares no way of working with the package: a half is read by struct, and the
+half nearest to an exact result is looked up among all halves.
 """
 
 import bisect
@@ -16,19 +16,33 @@ NEG_ZERO = 0x8000
 ONE = 0x3C00
 NAN_FORMS = list(range(0x7C01, 0x8000)) + list(range(0xFC01, 0x10000))
 
+# Rows (a, b, c, d, u, v, then the result): (a + b i) (c + d i) added to u + v i, where other ways differ.
+TWO_STEPS = (
+    (0x37EF, 0xC36F, 0x47F9, 0xBC7B, 0x3803, 0xB586, 0x34A3, 0xCFA3),
+    (0xCB47, 0xC449, 0xB1A8, 0xB7A7, 0xB809, 0x4B05, 0x24D6, 0x4D71),
+    (0xB456, 0x4517, 0xC70D, 0x328E, 0xB9C5, 0xC005, 0x30B3, 0xD0BF),
+)
+
+
+VALUES = [struct.unpack("<e", struct.pack("<H", bits))[0] for bits in range(65536)]
+UNITS = [int(Fraction(number) * 2**24) if math.isfinite(number) else None for number in VALUES]
+FINITE = [units * 2**24 for units in UNITS[:INF]]
+
 
 def value(bits):
-    return struct.unpack("<e", struct.pack("<H", bits))[0]
-
-
-FINITE = [Fraction(value(bits)) for bits in range(INF)]
+    return VALUES[bits]
 
 
 def nearest(exact):
     """The bits of the half nearest to a Fraction."""
+    return looked_up(Fraction(exact) * 2**48)
+
+
+def looked_up(exact):
+    """The same, of a number in units of 2^-48."""
     sign = 0x8000 if exact < 0 else 0
     size = abs(exact)
-    if size >= 65520:
+    if size >= 65520 * 2**48:
         return sign | INF
     above = bisect.bisect_left(FINITE, size)
     if above == len(FINITE):
@@ -53,10 +67,9 @@ def halves(*numbers):
 
 
 def fma(x, y, z):
-    a, b, c = value(x), value(y), value(z)
-    if math.isfinite(a) and math.isfinite(b) and math.isfinite(c):
-        return nearest(Fraction(a) * Fraction(b) + Fraction(c))
-    result = a * b + c
+    if None not in (UNITS[x], UNITS[y], UNITS[z]):
+        return looked_up(UNITS[x] * UNITS[y] + UNITS[z] * 2**24)
+    result = value(x) * value(y) + value(z)
     if math.isnan(result):
         return NAN
     return INF if result > 0 else NEG_INF
@@ -117,6 +130,56 @@ def rr_dot(how, x, y):
             u, v = sums[i], sums[i + count]
             sums[i] = (add(u[0], v[0]), add(u[1], v[1]))
     return [0] + list(sums[0])
+
+
+def power_sums(x):
+    sums = []
+    for place in range(32):
+        s = 0
+        for j in range(place // 2, len(x) // 2, 16):
+            s = fma(x[2 * j + place % 2], x[2 * j + place % 2], s)
+        sums.append(s)
+    return sums
+
+
+def rr_power(x):
+    sums = power_sums(x)
+    for count in (16, 8, 4, 2, 1):
+        for i in range(count):
+            sums[i] = add(sums[i], sums[i + count])
+    return [0, sums[0]]
+
+
+def rr_transform(how, x, roots):
+    return [0] + flat(transform(how, pairs(x), pairs(roots)))
+
+
+def transform(how, x, roots):
+    """By the transforms of every other number: the document's steps, told from the last one back."""
+    if len(x) == 1:
+        return [(plain(x[0][0]), plain(x[0][1]))]
+    us = transform(how, x[0::2], roots[0::2])
+    vs = transform(how, x[1::2], roots[0::2])
+    lower = [added(how, v, w, u) for u, v, w in zip(us, vs, roots)]
+    upper = [added(how, (neg(v[0]), neg(v[1])), w, u) for u, v, w in zip(us, vs, roots)]
+    return lower + upper
+
+
+def rr_scale(k, x):
+    return [0] + [scale(k, bits) for bits in x]
+
+
+def scale(k, bits):
+    if UNITS[bits] is None:
+        return plain(bits)
+    return nearest(Fraction(value(bits)) * Fraction(2)**k)
+
+
+def plain(bits):
+    """How a half is told that was handed in by some of its forms."""
+    if bits in (0, NEG_ZERO):
+        return 0
+    return NAN if bits & 0x7FFF > INF else bits
 
 
 def difference(answer, expected):

@@ -1,21 +1,65 @@
-"""What holds of each call on rows: its refusals, and that it leaves no trace."""
+"""What holds of each call on rows: its arguments, its refusals, and that it leaves no trace."""
 
 import contextlib
 import inspect
 import io
+import itertools
 import unittest
 
 from halfradio import rows
 from tests.reference import NEG_ZERO, row_of_any
 
-OUTSIDE_N = (-1, 4097, -2147483648, 2147483647)
-OUTSIDE_HOW = (-1, 2, -2147483648, 2147483647)
+ENDS = (-2147483648, 2147483647)
 
-PARAMETERS = {
-    "rr_times": ["n", "how", "x", "y"],
-    "rr_more": ["n", "how", "x", "y", "s"],
-    "rr_dot": ["n", "how", "x", "y"],
+# Of each call: its numbers, its lists, and how many numbers stand behind the 0 that it answers.
+CALLS = {
+    "rr_times": (("n", "how"), ("x", "y"), lambda n, how: 2 * n),
+    "rr_more": (("n", "how"), ("x", "y", "s"), lambda n, how: 2 * n),
+    "rr_dot": (("n", "how"), ("x", "y"), lambda n, how: 2),
+    "rr_power": (("n",), ("x",), lambda n: 1),
+    "rr_transform": (("doublings", "how"), ("x", "roots"), lambda k, how: 2 * 2**k),
+    "rr_scale": (("n", "k"), ("x",), lambda n, k: 2 * n),
 }
+
+# k of rr_transform has a range of its own, and so another name here.
+TAKEN = {
+    "n": (0, 1, 3, 4096),
+    "how": (0, 1),
+    "doublings": (0, 1, 2, 3, 10),
+    "k": (-64, -1, 0, 1, 64),
+}
+OUTSIDE = {
+    "n": (-1, 4097) + ENDS,
+    "how": (-1, 2) + ENDS,
+    "doublings": (-1, 11) + ENDS,
+    "k": (-65, 65) + ENDS,
+}
+
+
+def choices(names):
+    """Every way to give each of some numbers a value that is taken."""
+    return [dict(zip(names, values)) for values in itertools.product(*[TAKEN[name] for name in names])]
+
+
+def wrong_choices(names):
+    """Ways to give some numbers values of which one at least is outside its range."""
+    found = []
+    for count in range(1, len(names) + 1):
+        for wrong in itertools.combinations(names, count):
+            tables = [OUTSIDE[name] if name in wrong else TAKEN[name] for name in names]
+            found += [dict(zip(names, values)) for values in itertools.product(*tables)]
+    return found
+
+
+def length(name, numbers):
+    """How many numbers a list has, of the numbers of its call; none where one that tells it is refused."""
+    if "doublings" in numbers:
+        k = numbers["doublings"]
+        if not 0 <= k <= 10 or (name == "roots" and k == 0):
+            return 0
+        return 2**k if name == "roots" else 2 * 2**k
+    n = numbers["n"]
+    return 2 * n if 0 <= n <= 4096 else 0
 
 
 class Checks:
@@ -25,74 +69,74 @@ class Checks:
 
     def setUp(self):
         self.call = getattr(rows, self.name)
-        self.count = len(PARAMETERS[self.name]) - 2
+        self.numbers, self.lists, self.answered = CALLS[self.name]
+        self.usual = {"n": 40, "how": 1, "doublings": 5, "k": 3}
+        self.usual = {name: self.usual[name] for name in self.numbers}
+        self.refusal = [-2]
 
-    def handed(self, n):
-        """The lists the call is handed, n complex halves each: what is no number and -0 among them."""
-        lists = [row_of_any(n, 50 + i) for i in range(self.count)]
-        for numbers in lists:
-            numbers[:4] = [NEG_ZERO, 0x7C01, 0xFFFF, 0xFC00][:2 * n]
+    def handed(self, numbers, seed=50):
+        """The lists the call is handed, what is no number and -0 among them."""
+        lists = []
+        for place, name in enumerate(self.lists):
+            row = row_of_any(4096, seed + place)[:length(name, numbers)]
+            row[:4] = [NEG_ZERO, 0x7C01, 0xFFFF, 0xFC00][:len(row)]
+            lists.append(row)
         return lists
 
+    def answer(self, numbers, lists=None):
+        return self.call(*numbers.values(), *(self.handed(numbers) if lists is None else lists))
+
     def test_parameters(self):
-        self.assertEqual(list(inspect.signature(self.call).parameters), PARAMETERS[self.name])
+        names = ["k" if name == "doublings" else name for name in self.numbers]
+        self.assertEqual(list(inspect.signature(self.call).parameters), names + list(self.lists))
 
-    def test_n_is_refused(self):
-        for n in OUTSIDE_N:
-            for how in (0, 1):
-                self.assertEqual(self.call(n, how, *self.handed(0)), [-2], (n, how))
+    def test_a_number_outside_its_range_is_refused(self):
+        for numbers in wrong_choices(self.numbers):
+            self.assertEqual(self.answer(numbers), self.refusal, numbers)
 
-    def test_how_is_refused(self):
-        for how in OUTSIDE_HOW:
-            for n in (0, 1, 3, 4096):
-                self.assertEqual(self.call(n, how, *self.handed(n)), [-2], (n, how))
-
-    def test_both_are_refused(self):
-        for n in OUTSIDE_N:
-            for how in OUTSIDE_HOW:
-                self.assertEqual(self.call(n, how, *self.handed(0)), [-2], (n, how))
-
-    def test_the_ends_are_taken(self):
-        for n in (0, 1, 4096):
-            for how in (0, 1):
-                answer = self.call(n, how, *self.handed(n))
-                self.assertEqual(answer[0], 0)
-                self.assertEqual(len(answer), 3 if self.name == "rr_dot" else 1 + 2 * n)
+    def test_what_is_in_its_range_is_taken(self):
+        for numbers in choices(self.numbers):
+            answer = self.answer(numbers)
+            self.assertEqual(answer[0], 0, numbers)
+            self.assertEqual(len(answer), 1 + self.answered(*numbers.values()), numbers)
 
     def test_the_answer_is_a_list_of_whole_numbers(self):
-        for n, how in ((0, 0), (5, 1), (5, 2), (300, 0)):
-            answer = self.call(n, how, *self.handed(n))
+        for numbers in choices(self.numbers) + wrong_choices(self.numbers)[:3]:
+            answer = self.answer(numbers)
             self.assertIs(type(answer), list)
             self.assertEqual({type(number) for number in answer}, {int})
             self.assertTrue(all(0 <= number <= 65535 for number in answer[1:]))
 
     def test_what_is_handed_in_stays(self):
-        for n, how in ((0, 0), (1, 1), (40, 0), (40, 1), (40, 2), (4096, 1)):
-            handed = [Guarded(numbers) for numbers in self.handed(n)]
-            self.call(n, how, *handed)
-            self.assertTrue(handed == self.handed(n), (n, how))
+        for numbers in choices(self.numbers) + wrong_choices(self.numbers):
+            handed = [Guarded(row) for row in self.handed(numbers)]
+            self.answer(numbers, handed)
+            self.assertTrue(handed == self.handed(numbers), numbers)
 
     def test_one_list_in_two_places(self):
-        row = row_of_any(20, 60)
-        apart = self.call(20, 1, *[list(row) for _ in range(self.count)])
-        self.assertEqual(self.call(20, 1, *[row] * self.count), apart)
-        self.assertEqual(row, row_of_any(20, 60))
+        # Only lists of the same length can be one.
+        if len({length(name, self.usual) for name in self.lists}) > 1:
+            return
+        row = self.handed(self.usual)[0]
+        apart = self.answer(self.usual, [list(row) for _ in self.lists])
+        self.assertEqual(self.answer(self.usual, [row for _ in self.lists]), apart)
+        self.assertEqual(row, self.handed(self.usual)[0])
 
     def test_nothing_is_kept(self):
-        handed = self.handed(40)
-        first = self.call(40, 1, *handed)
+        handed = self.handed(self.usual)
+        first = self.answer(self.usual, handed)
         kept = list(first)
-        self.call(40, 0, *[row_of_any(40, 70)] * self.count)
-        self.call(-1, 0, *self.handed(0))
+        for numbers in choices(self.numbers) + wrong_choices(self.numbers)[:9]:
+            self.answer(numbers, self.handed(numbers, 70))
         first[:] = [7]
-        self.assertEqual(self.call(40, 1, *handed), kept)
-        self.assertEqual(self.call(40, 1, *handed), kept)
+        self.assertEqual(self.answer(self.usual, handed), kept)
+        self.assertEqual(self.answer(self.usual, handed), kept)
 
     def test_nothing_is_printed(self):
         out, err = io.StringIO(), io.StringIO()
         with contextlib.redirect_stdout(out), contextlib.redirect_stderr(err):
-            self.call(40, 1, *self.handed(40))
-            self.call(40, 2, *self.handed(40))
+            self.answer(self.usual)
+            self.answer(wrong_choices(self.numbers)[0])
         self.assertEqual((out.getvalue(), err.getvalue()), ("", ""))
 
 
@@ -106,6 +150,18 @@ class More(Checks, unittest.TestCase):
 
 class Dot(Checks, unittest.TestCase):
     name = "rr_dot"
+
+
+class Power(Checks, unittest.TestCase):
+    name = "rr_power"
+
+
+class Transform(Checks, unittest.TestCase):
+    name = "rr_transform"
+
+
+class Scale(Checks, unittest.TestCase):
+    name = "rr_scale"
 
 
 class Guarded(list):

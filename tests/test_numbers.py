@@ -7,7 +7,7 @@ import unittest
 
 from halfradio.rows import rr_dot, rr_more, rr_times
 from tests import reference
-from tests.reference import INF, NAN, NAN_FORMS, NEG_INF, NEG_ZERO, difference, half, halves
+from tests.reference import INF, NAN, NAN_FORMS, NEG_INF, NEG_ZERO, difference, half, halves, plain
 
 CALLS = {
     "rr_times": lambda how, x, y: rr_times(1, how, x, y),
@@ -129,6 +129,11 @@ class Numbers(unittest.TestCase):
         self.says([half(1), half(-1)], [INF, half(5)], INF, NEG_INF)
         self.says([half(-300), half(300)], [INF, half(65504)], NEG_INF, INF)
 
+    def test_the_least_half_by_infinite(self):
+        for least, infinite, told in ((1, INF, INF), (1, NEG_INF, NEG_INF), (0x8001, INF, NEG_INF)):
+            self.says([least, least], [infinite, half(1)], told, told)
+            self.says([infinite, half(1)], [least, least], told, told)
+
     def test_infinite_less_infinite_is_no_number(self):
         one = half(1)
         self.says([INF, INF], [one, one], NAN, INF)
@@ -179,13 +184,6 @@ class Numbers(unittest.TestCase):
             row = list(range(start, start + 8192))
             told = [0] + [plain(bits) for bits in row]
             self.assertIsNone(difference(rr_more(4096, 0, zeros, zeros, row), told))
-
-
-def plain(bits):
-    """How a half is told that was handed in by some of its forms."""
-    if bits in (0, NEG_ZERO):
-        return 0
-    return NAN if bits & 0x7FFF > INF else bits
 
 
 def other_products(a, b, c, d):

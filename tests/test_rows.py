@@ -4,7 +4,7 @@ import unittest
 
 from halfradio.rows import rr_dot, rr_more, rr_times
 from tests import reference
-from tests.reference import INF, NAN, NAN_FORMS, NEG_INF, NEG_ZERO
+from tests.reference import INF, NAN, NAN_FORMS, NEG_INF, NEG_ZERO, TWO_STEPS
 from tests.reference import difference, half, halves, row_of_any, row_of_middling
 
 LENGTHS = (0, 1, 2, 15, 16, 17, 31, 32, 33, 48, 100, 257)
@@ -67,12 +67,7 @@ class More(unittest.TestCase):
         self.one(halves(1, -2048), halves(1, 1), halves(1, 0), [half(2050), half(-2047)])
 
     def test_two_steps_differ_from_other_ways(self):
-        for bits in (
-            (0x37EF, 0xC36F, 0x47F9, 0xBC7B, 0x3803, 0xB586, 0x34A3, 0xCFA3),
-            (0xCB47, 0xC449, 0xB1A8, 0xB7A7, 0xB809, 0x4B05, 0x24D6, 0x4D71),
-            (0xB456, 0x4517, 0xC70D, 0x328E, 0xB9C5, 0xC005, 0x30B3, 0xD0BF),
-        ):
-            a, b, c, d, u, v, real, imaginary = bits
+        for a, b, c, d, u, v, real, imaginary in TWO_STEPS:
             for other in other_sums(a, b, c, d, u, v):
                 self.assertNotEqual(other[0], real)
                 self.assertNotEqual(other[1], imaginary)
