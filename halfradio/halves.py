@@ -9,6 +9,8 @@ there is but one 0. A complex half is a pair of parts, the real one first.
 
 UNIT_BITS = 24
 ONE = 16777216
+# The least half that isn't small, 2^-14.
+NORMAL = 1024
 INFINITE = 1099511627776
 NO_NUMBER = 2199023255552
 

@@ -1,11 +1,13 @@
 """The calls on rows: each answers a list, a refusal or 0 and what is told."""
 
-from halfradio.halves import add_product, bits_of, conjugate, fma, negative, part_of, plus, product, scaled
+from halfradio.halves import INFINITE, NORMAL, UNIT_BITS
+from halfradio.halves import add_product, bits_of, conjugate, finite, fma, negative, part_of, plus, product, scaled
 
 MOST = 4096
 MOST_DOUBLINGS = 10
 MOST_SCALE = 64
 SUMS = 16
+KINDS = 6
 
 
 def rr_times(n, how, x, y):
@@ -61,6 +63,30 @@ def rr_scale(n, k, x):
     return told_parts([scaled(part, k) for part in parts_of(x)])
 
 
+def rr_limit(n, bound, x):
+    limit = part_of(bound)
+    if wrong_count(n) or not_from_zero_on(limit):
+        return [-2]
+    return told_parts([limited(part, limit) for part in parts_of(x)])
+
+
+def rr_kinds(n, x):
+    if wrong_count(n):
+        return [-2]
+    counts = [0] * KINDS
+    for part in parts_of(x):
+        counts[kind_of(part)] += 1
+    return [0] + counts
+
+
+def rr_top(n, x):
+    if wrong_count(n):
+        return [-100]
+    sizes = [abs(part) for part in parts_of(x) if finite(part)]
+    # 0 has no bit, and so comes out as one less than the least half: that's -25.
+    return [max(sizes, default=0).bit_length() - 1 - UNIT_BITS]
+
+
 def wrong_count(n):
     return n < 0 or n > MOST
 
@@ -71,6 +97,11 @@ def wrong_how(how):
 
 def wrong_scale(k):
     return k < -MOST_SCALE or k > MOST_SCALE
+
+
+def not_from_zero_on(part):
+    """Whether a part is below 0, or no number."""
+    return part < 0 or part > INFINITE
 
 
 def parts_of(numbers):
@@ -95,6 +126,27 @@ def folded(parts):
         middle = len(left) // 2
         left = [plus(left[i], left[i + middle]) for i in range(middle)]
     return left[0]
+
+
+def limited(part, limit):
+    """A part held between -limit and limit; no number is 0."""
+    if abs(part) > INFINITE:
+        return 0
+    return max(-limit, min(limit, part))
+
+
+def kind_of(part):
+    """The number of the first kind that fits, in the order in which rr_kinds tells them."""
+    size = abs(part)
+    if size > INFINITE:
+        return 0
+    if size == INFINITE:
+        return 1
+    if size == 0:
+        return 2
+    if size < NORMAL:
+        return 3
+    return 4 if part < 0 else 5
 
 
 def transformed(pairs, roots):

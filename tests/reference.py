@@ -175,6 +175,32 @@ def scale(k, bits):
     return nearest(Fraction(value(bits)) * Fraction(2)**k)
 
 
+def rr_limit(bound, x):
+    return [0] + [limit(value(bound), bits) for bits in x]
+
+
+def limit(bound, bits):
+    number = value(bits)
+    if math.isnan(number):
+        return 0
+    nearest_inside = sorted((-bound, number, bound))[1]
+    return plain(struct.unpack("<H", struct.pack("<e", nearest_inside))[0])
+
+
+def rr_kinds(x):
+    return [0] + [[kind(value(bits)) for bits in x].count(number) for number in range(6)]
+
+
+def kind(number):
+    tests = (math.isnan(number), math.isinf(number), number == 0, abs(number) < 2.0**-14, number < 0, True)
+    return tests.index(True)
+
+
+def rr_top(x):
+    sizes = [abs(value(bits)) for bits in x if math.isfinite(value(bits))]
+    return [max((e for e in range(-24, 16) if any(size >= 2.0**e for size in sizes)), default=-25)]
+
+
 def plain(bits):
     """How a half is told that was handed in by some of its forms."""
     if bits in (0, NEG_ZERO):

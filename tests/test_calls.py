@@ -19,6 +19,9 @@ CALLS = {
     "rr_power": (("n",), ("x",), lambda n: 1),
     "rr_transform": (("doublings", "how"), ("x", "roots"), lambda k, how: 2 * 2**k),
     "rr_scale": (("n", "k"), ("x",), lambda n, k: 2 * n),
+    "rr_limit": (("n", "bound"), ("x",), lambda n, bound: 2 * n),
+    "rr_kinds": (("n",), ("x",), lambda n: 6),
+    "rr_top": (("n",), ("x",), lambda n: 0),
 }
 
 # k of rr_transform has a range of its own, and so another name here.
@@ -27,13 +30,16 @@ TAKEN = {
     "how": (0, 1),
     "doublings": (0, 1, 2, 3, 10),
     "k": (-64, -1, 0, 1, 64),
+    "bound": (0, NEG_ZERO, 0x0001, 0x3C00, 0x7BFF, 0x7C00),
 }
 OUTSIDE = {
     "n": (-1, 4097) + ENDS,
     "how": (-1, 2) + ENDS,
     "doublings": (-1, 11) + ENDS,
     "k": (-65, 65) + ENDS,
+    "bound": (0x8001, 0xBC00, 0xFBFF, 0xFC00, 0x7C01, 0x7E00, 0x7FFF, 0xFC01, 0xFFFF),
 }
+USUAL = {"n": 40, "how": 1, "doublings": 5, "k": 3, "bound": 0x3C00}
 
 
 def choices(names):
@@ -70,9 +76,8 @@ class Checks:
     def setUp(self):
         self.call = getattr(rows, self.name)
         self.numbers, self.lists, self.answered = CALLS[self.name]
-        self.usual = {"n": 40, "how": 1, "doublings": 5, "k": 3}
-        self.usual = {name: self.usual[name] for name in self.numbers}
-        self.refusal = [-2]
+        self.usual = {name: USUAL[name] for name in self.numbers}
+        self.refusal = [-100] if self.name == "rr_top" else [-2]
 
     def handed(self, numbers, seed=50):
         """The lists the call is handed, what is no number and -0 among them."""
@@ -97,7 +102,7 @@ class Checks:
     def test_what_is_in_its_range_is_taken(self):
         for numbers in choices(self.numbers):
             answer = self.answer(numbers)
-            self.assertEqual(answer[0], 0, numbers)
+            self.assertTrue(answer[0] == 0 or self.name == "rr_top" and -25 <= answer[0] <= 15, numbers)
             self.assertEqual(len(answer), 1 + self.answered(*numbers.values()), numbers)
 
     def test_the_answer_is_a_list_of_whole_numbers(self):
@@ -162,6 +167,18 @@ class Transform(Checks, unittest.TestCase):
 
 class Scale(Checks, unittest.TestCase):
     name = "rr_scale"
+
+
+class Limit(Checks, unittest.TestCase):
+    name = "rr_limit"
+
+
+class Kinds(Checks, unittest.TestCase):
+    name = "rr_kinds"
+
+
+class Top(Checks, unittest.TestCase):
+    name = "rr_top"
 
 
 class Guarded(list):
