@@ -35,9 +35,9 @@ def part_of(bits):
 
 def bits_of(part):
     """The 16 bits that tell a part."""
-    size = abs(part)
-    if size > INFINITE:
+    if no_number(part):
         return NO_NUMBER_BITS
+    size = abs(part)
     shift = max(size.bit_length() - SIGNIFICANT_BITS, 0)
     # The leading bit is left in, and counts one exponent more where there is one.
     bits = (shift << 10) + (size >> shift)
@@ -71,6 +71,10 @@ def finite(part):
     return -INFINITE < part < INFINITE
 
 
+def no_number(part):
+    return abs(part) > INFINITE
+
+
 def fma(x, y, z):
     """x y + z, rounded once."""
     # finite, written out, for the same reason as in rounded.
@@ -81,7 +85,7 @@ def fma(x, y, z):
 
 def fma_not_finite(x, y, z):
     """x y + z, where one of the three at least isn't finite."""
-    if max(abs(x), abs(y), abs(z)) > INFINITE:
+    if no_number(x) or no_number(y) or no_number(z):
         return NO_NUMBER
     if finite(x) and finite(y):
         return z

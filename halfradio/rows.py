@@ -1,13 +1,18 @@
 """The calls on rows: each answers a list, a refusal or 0 and what is told."""
 
 from halfradio.halves import INFINITE, NORMAL, UNIT_BITS
-from halfradio.halves import add_product, bits_of, conjugate, finite, fma, negative, part_of, plus, product, scaled
+from halfradio.halves import add_product, bits_of, conjugate, finite, fma, nearest, no_number
+from halfradio.halves import part_of, plus, product, rounded, scaled
+from halfradio.points import points_of, wrong_bits, wrong_points
+from halfradio.transform import transformed
 
 MOST = 4096
 MOST_DOUBLINGS = 10
 MOST_SCALE = 64
 SUMS = 16
 KINDS = 6
+GREATEST_WORD = 32767
+WORDS = 65536
 
 
 def rr_times(n, how, x, y):
@@ -87,6 +92,27 @@ def rr_top(n, x):
     return [max(sizes, default=0).bit_length() - 1 - UNIT_BITS]
 
 
+def rr_words(n, k, w):
+    if wrong_count(n) or wrong_scale(k):
+        return [-2]
+    return told_parts([scaled(part_of_word(word), k) for word in w])
+
+
+def rr_to_words(n, k, x):
+    if wrong_count(n) or wrong_scale(k):
+        return [-2]
+    return [0] + [word_of(scaled(part, k)) for part in parts_of(x)]
+
+
+def rr_points(n, q, unit, bits):
+    size = part_of(unit)
+    if wrong_count(n) or wrong_points(q, size):
+        return [-2]
+    if wrong_bits(bits):
+        return [-5]
+    return told(points_of(q, size, bits))
+
+
 def wrong_count(n):
     return n < 0 or n > MOST
 
@@ -101,7 +127,7 @@ def wrong_scale(k):
 
 def not_from_zero_on(part):
     """Whether a part is below 0, or no number."""
-    return part < 0 or part > INFINITE
+    return part < 0 or no_number(part)
 
 
 def parts_of(numbers):
@@ -130,16 +156,16 @@ def folded(parts):
 
 def limited(part, limit):
     """A part held between -limit and limit; no number is 0."""
-    if abs(part) > INFINITE:
+    if no_number(part):
         return 0
     return max(-limit, min(limit, part))
 
 
 def kind_of(part):
     """The number of the first kind that fits, in the order in which rr_kinds tells them."""
-    size = abs(part)
-    if size > INFINITE:
+    if no_number(part):
         return 0
+    size = abs(part)
     if size == INFINITE:
         return 1
     if size == 0:
@@ -149,29 +175,18 @@ def kind_of(part):
     return 4 if part < 0 else 5
 
 
-def transformed(pairs, roots):
-    """The transform of complex halves, as many as a power of 2, with half as many roots."""
-    row = [pairs[place] for place in turned_places(len(pairs))]
-    h = 1
-    while h < len(row):
-        step = len(row) // (2 * h)
-        for start in range(0, len(row), 2 * h):
-            for j in range(h):
-                u = row[start + j]
-                v = row[start + j + h]
-                w = roots[j * step]
-                row[start + j] = add_product(v, w, u)
-                row[start + j + h] = add_product(negative(v), w, u)
-        h = 2 * h
-    return row
+def part_of_word(word):
+    """The half nearest to a word, which has 65536 more where it is below 0."""
+    signed = word if word <= GREATEST_WORD else word - WORDS
+    return rounded(signed << (2 * UNIT_BITS))
 
 
-def turned_places(count):
-    """The numbers below count, a power of 2, each with its bits the other way round, in order."""
-    places = [0]
-    while len(places) < count:
-        places = [2 * place for place in places] + [2 * place + 1 for place in places]
-    return places
+def word_of(part):
+    """The whole number nearest to a part, held to 16 bits; no number is 0."""
+    if no_number(part):
+        return 0
+    whole = nearest(part, UNIT_BITS)
+    return max(-GREATEST_WORD - 1, min(GREATEST_WORD, whole)) % WORDS
 
 
 def told(pairs):

@@ -201,6 +201,47 @@ def rr_top(x):
     return [max((e for e in range(-24, 16) if any(size >= 2.0**e for size in sizes)), default=-25)]
 
 
+def rr_words(k, w):
+    signed = [word - 65536 if word >> 15 else word for word in w]
+    return [0] + [scale(k, nearest(word)) for word in signed]
+
+
+def rr_to_words(k, x):
+    return [0] + [word(scale(k, bits)) for bits in x]
+
+
+def word(bits):
+    number = value(bits)
+    if math.isnan(number):
+        return 0
+    # Python's round takes of two as near the even one, too.
+    whole = round(number) if math.isfinite(number) else math.copysign(40000, number)
+    return int(sorted((-32768, whole, 32767))[1]) & 0xFFFF
+
+
+# The levels by unit, told by the bits of an axis.
+LEVELS = {
+    1: {"0": -1, "1": 1},
+    2: {"00": -3, "01": -1, "11": 1, "10": 3},
+    3: {"000": -7, "001": -5, "011": -3, "010": -1, "110": 1, "111": 3, "101": 5, "100": 7},
+}
+
+
+def level(unit, bits):
+    by = LEVELS[len(bits)]["".join(map(str, bits))]
+    return nearest(Fraction(value(unit)) * by)
+
+
+def point(q, unit, bits):
+    if q == 1:
+        return level(unit, bits), 0
+    return level(unit, bits[:q // 2]), level(unit, bits[q // 2:])
+
+
+def rr_points(q, unit, bits):
+    return [0] + flat(point(q, unit, bits[i:i + q]) for i in range(0, len(bits), q))
+
+
 def plain(bits):
     """How a half is told that was handed in by some of its forms."""
     if bits in (0, NEG_ZERO):

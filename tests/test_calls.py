@@ -1,6 +1,7 @@
 """What holds of each call on rows: its arguments, its refusals, and that it leaves no trace."""
 
 import contextlib
+import functools
 import inspect
 import io
 import itertools
@@ -22,6 +23,9 @@ CALLS = {
     "rr_limit": (("n", "bound"), ("x",), lambda n, bound: 2 * n),
     "rr_kinds": (("n",), ("x",), lambda n: 6),
     "rr_top": (("n",), ("x",), lambda n: 0),
+    "rr_words": (("n", "k"), ("w",), lambda n, k: 2 * n),
+    "rr_to_words": (("n", "k"), ("x",), lambda n, k: 2 * n),
+    "rr_points": (("n", "q", "unit"), ("bits",), lambda n, q, unit: 2 * n),
 }
 
 # k of rr_transform has a range of its own, and so another name here.
@@ -31,6 +35,8 @@ TAKEN = {
     "doublings": (0, 1, 2, 3, 10),
     "k": (-64, -1, 0, 1, 64),
     "bound": (0, NEG_ZERO, 0x0001, 0x3C00, 0x7BFF, 0x7C00),
+    "q": (1, 2, 4, 6),
+    "unit": (0x0400, 0x3C00, 0x6C00),
 }
 OUTSIDE = {
     "n": (-1, 4097) + ENDS,
@@ -38,8 +44,10 @@ OUTSIDE = {
     "doublings": (-1, 11) + ENDS,
     "k": (-65, 65) + ENDS,
     "bound": (0x8001, 0xBC00, 0xFBFF, 0xFC00, 0x7C01, 0x7E00, 0x7FFF, 0xFC01, 0xFFFF),
+    "q": (-1, 0, 3, 5, 7, 8) + ENDS,
+    "unit": (0, NEG_ZERO, 0x03FF, 0x6C01, 0x8400, 0xBC00, 0x7C00, 0xFC00, 0x7C01, 0xFFFF),
 }
-USUAL = {"n": 40, "how": 1, "doublings": 5, "k": 3, "bound": 0x3C00}
+USUAL = {"n": 40, "how": 1, "doublings": 5, "k": 3, "bound": 0x3C00, "q": 4, "unit": 0x3C01}
 
 
 def choices(names):
@@ -64,8 +72,18 @@ def length(name, numbers):
         if not 0 <= k <= 10 or (name == "roots" and k == 0):
             return 0
         return 2**k if name == "roots" else 2 * 2**k
-    n = numbers["n"]
-    return 2 * n if 0 <= n <= 4096 else 0
+    n, q = numbers["n"], numbers.get("q")
+    if not 0 <= n <= 4096 or (name == "bits" and q not in (1, 2, 4, 6)):
+        return 0
+    return q * n if name == "bits" else 2 * n
+
+
+@functools.lru_cache
+def numbers_for(name, seed):
+    """As many numbers as a list may have, what is no number and -0 among them."""
+    if name == "bits":
+        return [bits & 1 for bits in row_of_any(12288, seed)]
+    return [NEG_ZERO, 0x7C01, 0xFFFF, 0xFC00] + row_of_any(4094, seed)
 
 
 class Checks:
@@ -80,13 +98,7 @@ class Checks:
         self.refusal = [-100] if self.name == "rr_top" else [-2]
 
     def handed(self, numbers, seed=50):
-        """The lists the call is handed, what is no number and -0 among them."""
-        lists = []
-        for place, name in enumerate(self.lists):
-            row = row_of_any(4096, seed + place)[:length(name, numbers)]
-            row[:4] = [NEG_ZERO, 0x7C01, 0xFFFF, 0xFC00][:len(row)]
-            lists.append(row)
-        return lists
+        return [numbers_for(name, seed + place)[:length(name, numbers)] for place, name in enumerate(self.lists)]
 
     def answer(self, numbers, lists=None):
         return self.call(*numbers.values(), *(self.handed(numbers) if lists is None else lists))
@@ -179,6 +191,18 @@ class Kinds(Checks, unittest.TestCase):
 
 class Top(Checks, unittest.TestCase):
     name = "rr_top"
+
+
+class Words(Checks, unittest.TestCase):
+    name = "rr_words"
+
+
+class ToWords(Checks, unittest.TestCase):
+    name = "rr_to_words"
+
+
+class Points(Checks, unittest.TestCase):
+    name = "rr_points"
 
 
 class Guarded(list):
