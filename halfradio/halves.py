@@ -108,6 +108,11 @@ def scaled(part, k):
     return held(part << k) if k >= 0 else nearest(part, -k)
 
 
+def at_most(x, y):
+    """Whether both are numbers, and x isn't above y."""
+    return x <= y and not no_number(x) and not no_number(y)
+
+
 def conjugate(y):
     return (y[0], -y[1])
 
@@ -126,3 +131,26 @@ def negative(x):
 def product(x, y):
     """x y, of pairs: added to 0, the first of its two steps is a product rounded."""
     return add_product(x, y, (0, 0))
+
+
+def square(x):
+    """x's square, of a pair."""
+    return fma(x[1], x[1], fma(x[0], x[0], 0))
+
+
+def parts_of(numbers):
+    return [part_of(number) for number in numbers]
+
+
+def pairs_of(numbers):
+    """The complex halves of a list that tells each by two numbers."""
+    return [(part_of(numbers[i]), part_of(numbers[i + 1])) for i in range(0, len(numbers), 2)]
+
+
+def numbers_of(pairs):
+    """The list that tells complex halves, each by two numbers."""
+    numbers = []
+    for pair in pairs:
+        numbers.append(bits_of(pair[0]))
+        numbers.append(bits_of(pair[1]))
+    return numbers

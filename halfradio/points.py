@@ -4,7 +4,7 @@ An axis of b bits has 2^b levels, unit by the odd numbers from 1 - 2^b on; the
 number of a level, i, is told by the bits of i's Gray code, the highest first.
 """
 
-from halfradio.halves import NORMAL, ONE, fma
+from halfradio.halves import NORMAL, ONE, at_most, conjugate, fma, product, square
 
 POINT_BITS = (1, 2, 4, 6)
 # 4096, in units of 2^-24.
@@ -56,3 +56,27 @@ def number_of(bits, start, width):
     for place in range(start, start + width):
         number = 2 * number + bits[place]
     return number
+
+
+def steps_of(unit, width):
+    """The bounds between the levels of an axis, in their order, as they are where g is 1."""
+    count = 1 << width
+    return [fma(unit, (2 * j - count) * ONE, 0) for j in range(1, count)]
+
+
+def decided(q, steps, h, x):
+    """The q bits of x, which came by h; steps are those of an axis."""
+    y = product(x, conjugate(h))
+    g = square(h)
+    bounds = [fma(g, step, 0) for step in steps]
+    bits = axis_bits(q, bounds, y[0])
+    if q > 1:
+        bits.extend(axis_bits(q, bounds, y[1]))
+    return bits
+
+
+def axis_bits(q, bounds, part):
+    """The bits of the level that a part lies at: as many bounds aren't above it as levels are below."""
+    code = gray(len([bound for bound in bounds if at_most(bound, part)]))
+    width = axis_width(q)
+    return [(code >> (width - 1 - place)) & 1 for place in range(width)]

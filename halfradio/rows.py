@@ -1,9 +1,9 @@
 """The calls on rows: each answers a list, a refusal or 0 and what is told."""
 
 from halfradio.halves import INFINITE, NORMAL, UNIT_BITS
-from halfradio.halves import add_product, bits_of, conjugate, finite, fma, nearest, no_number
-from halfradio.halves import part_of, plus, product, rounded, scaled
-from halfradio.points import points_of, wrong_bits, wrong_points
+from halfradio.halves import add_product, at_most, bits_of, conjugate, finite, fma, nearest, no_number
+from halfradio.halves import numbers_of, pairs_of, part_of, parts_of, plus, product, rounded, scaled
+from halfradio.points import axis_width, decided, points_of, steps_of, wrong_bits, wrong_points
 from halfradio.transform import transformed
 
 MOST = 4096
@@ -70,7 +70,7 @@ def rr_scale(n, k, x):
 
 def rr_limit(n, bound, x):
     limit = part_of(bound)
-    if wrong_count(n) or not_from_zero_on(limit):
+    if wrong_count(n) or not at_most(0, limit):
         return [-2]
     return told_parts([limited(part, limit) for part in parts_of(x)])
 
@@ -113,6 +113,19 @@ def rr_points(n, q, unit, bits):
     return told(points_of(q, size, bits))
 
 
+def rr_decide(n, q, unit, h, x):
+    size = part_of(unit)
+    if wrong_count(n) or wrong_points(q, size):
+        return [-2]
+    hs = pairs_of(h)
+    xs = pairs_of(x)
+    steps = steps_of(size, axis_width(q))
+    answer = [0]
+    for i in range(n):
+        answer.extend(decided(q, steps, hs[i], xs[i]))
+    return answer
+
+
 def wrong_count(n):
     return n < 0 or n > MOST
 
@@ -123,20 +136,6 @@ def wrong_how(how):
 
 def wrong_scale(k):
     return k < -MOST_SCALE or k > MOST_SCALE
-
-
-def not_from_zero_on(part):
-    """Whether a part is below 0, or no number."""
-    return part < 0 or no_number(part)
-
-
-def parts_of(numbers):
-    return [part_of(number) for number in numbers]
-
-
-def pairs_of(numbers):
-    """The complex halves of a list that tells each by two numbers."""
-    return [(part_of(numbers[i]), part_of(numbers[i + 1])) for i in range(0, len(numbers), 2)]
 
 
 def factors_of(how, numbers):
@@ -191,11 +190,7 @@ def word_of(part):
 
 def told(pairs):
     """The answer that isn't a refusal: 0, then complex halves, number by number."""
-    answer = [0]
-    for pair in pairs:
-        answer.append(bits_of(pair[0]))
-        answer.append(bits_of(pair[1]))
-    return answer
+    return [0] + numbers_of(pairs)
 
 
 def told_parts(parts):

@@ -242,6 +242,35 @@ def rr_points(q, unit, bits):
     return [0] + flat(point(q, unit, bits[i:i + q]) for i in range(0, len(bits), q))
 
 
+def square(x):
+    return fma(x[1], x[1], fma(x[0], x[0], 0))
+
+
+def not_above(x, y):
+    # Of floats that are no number every comparison is False.
+    return value(x) <= value(y)
+
+
+def decide_axis(width, unit, g, part):
+    levels = 2**width
+    bounds = [fma(g, fma(unit, half(2 * j - levels), 0), 0) for j in range(1, levels)]
+    i = [not_above(bound, part) for bound in bounds].count(True)
+    codes = {by: code for code, by in LEVELS[width].items()}
+    return [int(bit) for bit in codes[2 * i + 1 - levels]]
+
+
+def decide(q, unit, h, x):
+    y = times(1, x, h)
+    g = square(h)
+    if q == 1:
+        return decide_axis(1, unit, g, y[0])
+    return decide_axis(q // 2, unit, g, y[0]) + decide_axis(q // 2, unit, g, y[1])
+
+
+def rr_decide(q, unit, h, x):
+    return [0] + [bit for p, r in zip(pairs(h), pairs(x)) for bit in decide(q, unit, p, r)]
+
+
 def plain(bits):
     """How a half is told that was handed in by some of its forms."""
     if bits in (0, NEG_ZERO):

@@ -26,6 +26,7 @@ CALLS = {
     "rr_words": (("n", "k"), ("w",), lambda n, k: 2 * n),
     "rr_to_words": (("n", "k"), ("x",), lambda n, k: 2 * n),
     "rr_points": (("n", "q", "unit"), ("bits",), lambda n, q, unit: 2 * n),
+    "rr_decide": (("n", "q", "unit"), ("h", "x"), lambda n, q, unit: q * n),
 }
 
 # k of rr_transform has a range of its own, and so another name here.
@@ -203,6 +204,10 @@ class ToWords(Checks, unittest.TestCase):
 
 class Points(Checks, unittest.TestCase):
     name = "rr_points"
+
+
+class Decide(Checks, unittest.TestCase):
+    name = "rr_decide"
 
 
 class Guarded(list):

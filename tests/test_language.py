@@ -1,6 +1,6 @@
 """The package's files keep to the small part of Python that they are written in.
 
-A part of the rules is checked here: sizes, signs, imports, statements, and which names and methods are used.
+A part of the rules is checked here: sizes, signs, imports, statements, classes, and which names and methods are used.
 """
 
 import ast
@@ -118,6 +118,70 @@ class Language(unittest.TestCase):
                 self.assertTrue(docstring or isinstance(node, kinds), where)
                 bound += names_bound(node)
             self.assertEqual(len(bound), len(set(bound)), path.name)
+
+    def test_names_are_drawn_from_where_they_are_defined(self):
+        defined = {path.stem: {name for node in tree.body if not isinstance(node, ast.ImportFrom)
+                               for name in names_bound(node)} for path, tree in self.trees.items()}
+        drawn = {path.stem: set() for path in self.files}
+        for path, node in self.nodes:
+            if isinstance(node, ast.ImportFrom):
+                source = node.module.removeprefix("halfradio.")
+                drawn[path.stem].add(source)
+                for alias in node.names:
+                    self.assertIn(alias.name, defined[source], self.where(path, node))
+                    self.assertIsNone(alias.asname)
+        # Each round takes away the files that draw from none of those left: with a circle some stay.
+        for _ in self.files:
+            drawn = {name: sources & set(drawn) for name, sources in drawn.items() if sources & set(drawn)}
+        self.assertEqual(drawn, {})
+
+    def test_locals_are_not_called_like_imports_or_classes(self):
+        for path, tree in self.trees.items():
+            taken = {alias.name for node in tree.body if isinstance(node, ast.ImportFrom) for alias in node.names}
+            taken |= {node.name for node in tree.body if isinstance(node, ast.ClassDef)}
+            for node in ast.walk(tree):
+                if isinstance(node, ast.Name) and isinstance(node.ctx, ast.Store):
+                    self.assertNotIn(node.id, taken, self.where(path, node))
+                if isinstance(node, ast.arg):
+                    self.assertNotIn(node.arg, taken, self.where(path, node))
+
+    def test_classes(self):
+        methods, values = set(), set()
+        for path, node in self.nodes:
+            if isinstance(node, ast.ClassDef):
+                names = [part.name for part in node.body if isinstance(part, ast.FunctionDef)]
+                self.assertEqual(len(names), len(set(names)), self.where(path, node))
+                self.assertEqual(node.decorator_list, [])
+                methods.update(names)
+                for part in node.body:
+                    docstring = isinstance(part, ast.Expr) and isinstance(part.value, ast.Constant)
+                    self.assertTrue(docstring or isinstance(part, ast.FunctionDef), self.where(path, part))
+            if isinstance(node, ast.Attribute) and isinstance(node.ctx, ast.Store):
+                values.add(node.attr)
+        self.assertEqual(methods & values, set())
+        self.assertTrue({name for name in methods if name.startswith("_")} <= {"__init__"})
+        pythons = set().union(*[dir(kind) for kind in (str, int, list, tuple, dict, set, bytes)])
+        self.assertEqual((methods - {"__init__"} | values) & pythons, set())
+
+    def test_init_gives_back_nothing(self):
+        for path, node in self.nodes:
+            if isinstance(node, ast.FunctionDef) and node.name == "__init__":
+                self.assertFalse(any(isinstance(part, ast.Return) for part in ast.walk(node)), self.where(path, node))
+
+    def test_small_forms(self):
+        for path, node in self.nodes:
+            where = self.where(path, node)
+            if isinstance(node, ast.Compare):
+                for operator, right in zip(node.ops, node.comparators):
+                    if isinstance(operator, (ast.Is, ast.IsNot)):
+                        self.assertIn(ast.unparse(right), ("None", "True", "False"), where)
+            if isinstance(node, ast.keyword):
+                self.assertIn(node.arg, ("key", "default", "reverse", "start", "strict"), where)
+            if isinstance(node, ast.ListComp):
+                self.assertEqual(len(node.generators), 1, where)
+                self.assertLessEqual(len(node.generators[0].ifs), 1, where)
+            if isinstance(node, ast.Constant) and isinstance(node.value, str):
+                self.assertNotIn("%", node.value, where)
 
 
 def names_bound(node):
